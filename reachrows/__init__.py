@@ -1,0 +1,1 @@
+"""Reachrows: books of code whose rows reach so far and no farther."""
