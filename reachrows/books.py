@@ -70,6 +70,25 @@ def jump_rows(part):
     return [number for number, row in enumerate(part) if row[0] in JUMPS]
 
 
+def is_jump_row(part, thing):
+    """Whether the thing is the number of a "jump" or "branch" row of the part."""
+    return is_within(thing, 0, len(part) - 1) and part[thing][0] in JUMPS
+
+
+def is_ascending(members):
+    """Whether each member is less than the one behind it, so that no two are the same."""
+    return all([member < behind for member, behind in zip(members, members[1:])])
+
+
+def are_pairs(thing, bounds):
+    """Whether the thing is an ascending list of different tuples, of members that are within the bounds."""
+    if not isinstance(thing, list):
+        return False
+    if not all([isinstance(pair, tuple) and are_within(pair, bounds) for pair in thing]):
+        return False
+    return is_ascending(thing)
+
+
 def is_even(part):
     """Whether the part has no "align"."""
     return all([row[0] != "align" for row in part])

@@ -1,29 +1,30 @@
 """Parts alone: where their rows lie, which short rows do not fit, which words serve."""
 
 from reachrows.books import (
-    FAR, JUMPS, LOAD, LONG, MOST_ROWS, REACH, SHORT, SPAN, WORD,
-    check_machine, check_part, is_within, jump_rows,
+    FAR, JUMPS, LOAD, LONG, REACH, SHORT, SPAN, WORD,
+    check_machine, check_part, is_ascending, is_jump_row,
 )
 from reachrows.errors import NoForms
 
 
 def is_forms(part, thing):
     """Whether the thing is forms of the part."""
-    if not isinstance(thing, list):
+    if not isinstance(thing, list) or not all([is_jump_row(part, row) for row in thing]):
         return False
-    jumps = jump_rows(part)
-    # A boolean would be found among the jumps as the integer that it equals.
-    if not all([is_within(row, 0, MOST_ROWS) and row in jumps for row in thing]):
-        return False
-    return all([row < behind for row, behind in zip(thing, thing[1:])])
+    return is_ascending(thing)
+
+
+def check_forms(part, forms):
+    """Raise NoForms if the forms are none of the part."""
+    if not is_forms(part, forms):
+        raise NoForms("these are no forms of the part")
 
 
 def check_formed(part, machine, forms):
     """Raise the error for the first of the three that there is not."""
     check_part(part)
     check_machine(machine)
-    if not is_forms(part, forms):
-        raise NoForms("these are no forms of the part")
+    check_forms(part, forms)
 
 
 def row_size(row, machine, address, is_short):
@@ -65,6 +66,19 @@ def server(part, addresses, span, load):
     return min(near)[1] if near else None
 
 
+def unfit_rows(part, machine, forms):
+    """What misfits returns, for a part, a machine and forms that are known to be such."""
+    addresses = addresses_of(part, machine, forms)
+    return [row for row in forms if distance(addresses, row, part[row][1]) > machine[REACH]]
+
+
+def servers(part, machine, forms):
+    """What served returns, for a part, a machine and forms that are known to be such."""
+    addresses = addresses_of(part, machine, forms)
+    loads = [number for number, row in enumerate(part) if row[0] == "load"]
+    return {load: server(part, addresses, machine[SPAN], load) for load in loads}
+
+
 def places(part, machine, forms):
     """The list of the addresses of all rows, and of the part's end."""
     check_formed(part, machine, forms)
@@ -74,13 +88,10 @@ def places(part, machine, forms):
 def misfits(part, machine, forms):
     """The ascending list of all short rows that do not fit."""
     check_formed(part, machine, forms)
-    addresses = addresses_of(part, machine, forms)
-    return [row for row in forms if distance(addresses, row, part[row][1]) > machine[REACH]]
+    return unfit_rows(part, machine, forms)
 
 
 def served(part, machine, forms):
     """A dict from each load to the "word" that serves it, or None."""
     check_formed(part, machine, forms)
-    addresses = addresses_of(part, machine, forms)
-    loads = [number for number, row in enumerate(part) if row[0] == "load"]
-    return {load: server(part, addresses, machine[SPAN], load) for load in loads}
+    return servers(part, machine, forms)

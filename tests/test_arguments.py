@@ -1,118 +1,153 @@
-"""[1] and the interface: how the functions of books and places take their arguments and give their answers."""
+"""[1] and the interface: how all functions take their arguments and give their answers."""
 
 import inspect
 import itertools
 import unittest
+from copy import deepcopy
+from importlib import import_module
 
-from reachrows import books, places
-from reachrows.errors import NoBook, NoForms, NoMachine, NoNumber, NoPart
-from tests.support import MACHINE, changes, nested, odd_values, refusal
-
-PART = (("load", 7), ("branch", 3), ("plain", 20, 1), ("jump", 0), ("word", 7))
-FORMS = [1, 3]
-BOOK = ((("plain", 1, 3), ("branch", 3), ("stop", 1), ("far", 1)), (("stop", 2),))
-
-# Each call with good arguments, by their names and in their order.
-CALLS = (
-    (books.is_machine, {"thing": MACHINE}),
-    (books.is_part, {"thing": PART}),
-    (books.is_book, {"thing": BOOK}),
-    (books.run_book, {"book": BOOK, "total": 6, "limit": 10}),
-    (places.places, {"part": PART, "machine": MACHINE, "forms": FORMS}),
-    (places.misfits, {"part": PART, "machine": MACHINE, "forms": FORMS}),
-    (places.served, {"part": PART, "machine": MACHINE, "forms": FORMS}),
+from reachrows import aligned, books, growing, islands, places, words
+from reachrows.errors import (
+    NoBook, NoEven, NoForms, NoGoal, NoIslands, NoMachine, NoNumber, NoOrder, NoPart, NoPlaced, NoRoom, NoRow, NoSize,
 )
+from tests.calls import INTERFACE, PART, UNEVEN, all_calls
+from tests.support import MACHINE, changes, odd_things, odd_values, refusal
 
-ANSWERS = (
-    True, True, True, ("stop", 9, 4), [0, 2, 3, 23, 24, 28], [1, 3], {0: None},
-)
 
-# The error for each argument, and values that it is not.
-ERRORS = {"book": NoBook, "total": NoNumber, "limit": NoNumber, "part": NoPart, "machine": NoMachine, "forms": NoForms}
-BAD = {
-    "book": (None, True, [BOOK[0], BOOK[1]], BOOK[:1], (), (list(BOOK[0]), BOOK[1]), nested(list, 10)),
-    "total": (None, True, False, -1, 65536, "1", (1,), [1], {1: 1}),
-    "limit": (None, True, False, -1, 1001, "1", (1,), [1], {1: 1}),
-    "part": (None, True, list(PART), PART[:2], (), PART[:3] + (["jump", 0],) + PART[4:], nested(tuple, 10)),
-    "machine": (None, False, list(MACHINE), MACHINE[:7], (), MACHINE + (1,), (True,) + MACHINE[1:], nested(dict, 10)),
-    "forms": (None, False, tuple(FORMS), [3, 1], [1, 1], [True], [1, True], [0], [5], {1: 3}, nested(list, 10)),
-}
+def members(value):
+    """All lists and dicts in a value, the value itself among them."""
+    found = [value] if isinstance(value, (list, dict)) else []
+    if isinstance(value, dict):
+        value = list(value) + list(value.values())
+    if isinstance(value, (list, tuple)):
+        for member in value:
+            found.extend(members(member))
+    return found
 
 
 class TestInterface(unittest.TestCase):
 
-    def test_names_and_order_of_the_arguments(self):
-        for call, named in CALLS:
-            with self.subTest(call.__name__):
-                self.assertEqual(list(inspect.signature(call).parameters), list(named))
-
     def test_each_function_is_defined_in_the_file_that_lists_it(self):
-        for call, _ in CALLS:
-            file = "reachrows.books" if call.__name__[:3] in ("is_", "run") else "reachrows.places"
-            with self.subTest(call.__name__):
-                self.assertEqual(call.__module__, file)
+        for file, signatures in INTERFACE.items():
+            for signature in signatures:
+                with self.subTest(file, signature=signature):
+                    function = getattr(import_module(file), signature.split("(")[0])
+                    self.assertTrue(inspect.isfunction(function))
+                    self.assertEqual(function.__module__, file)
+                    self.assertEqual(function.__name__ + str(inspect.signature(function)), signature)
+
+    def test_each_function_is_called_here(self):
+        called = {(call.function.__module__, call.function.__name__) for call in all_calls()}
+        listed = {(file, one.split("(")[0]) for file, signatures in INTERFACE.items() for one in signatures}
+        self.assertEqual(called, listed)
 
     def test_arguments_by_place(self):
-        for (call, named), answer in zip(CALLS, ANSWERS):
-            with self.subTest(call.__name__):
-                self.assertEqual(call(*named.values()), answer)
+        for call in all_calls():
+            with self.subTest(call):
+                self.assertEqual(call.function(*call.named.values()), call.answer)
 
     def test_arguments_by_their_names_in_any_order(self):
-        for (call, named), answer in zip(CALLS, ANSWERS):
-            for order in itertools.permutations(named):
-                with self.subTest(call.__name__, order=order):
-                    self.assertEqual(call(**{name: named[name] for name in order}), answer)
+        for call in all_calls():
+            for order in itertools.permutations(call.named):
+                answer = call.function(**{name: call.named[name] for name in order})
+                self.assertEqual(answer, call.answer, (call, order))
 
     def test_some_arguments_by_place_and_the_others_by_name(self):
-        for (call, named), answer in zip(CALLS, ANSWERS):
-            for many in range(len(named)):
-                values = list(named.values())[:many]
-                others = {name: named[name] for name in reversed(list(named)[many:])}
-                with self.subTest(call.__name__, many=many):
-                    self.assertEqual(call(*values, **others), answer)
+        for call in all_calls():
+            for many in range(len(call.named)):
+                values = list(call.named.values())[:many]
+                others = {name: call.named[name] for name in reversed(list(call.named)[many:])}
+                with self.subTest(call, many=many):
+                    self.assertEqual(call.function(*values, **others), call.answer)
 
     def test_equal_calls_return_equal_results(self):
-        for call, named in CALLS:
-            with self.subTest(call.__name__):
-                self.assertEqual(call(**named), call(**named))
+        for call, other in zip(all_calls(), all_calls()):
+            with self.subTest(call):
+                self.assertEqual(call.again(), other.again())
 
 
 class TestErrorsOfArguments(unittest.TestCase):
 
+    def check(self, call, error, wrong):
+        found = refusal(call.function, **{**call.named, **wrong})
+        self.assertIs(found, error, (call, wrong))
+
     def test_each_wrong_argument_alone(self):
-        for call, named in CALLS[3:]:
-            for name in named:
-                for value in BAD[name]:
-                    with self.subTest(call.__name__, name=name, value=repr(value)[:60]):
-                        self.assertIs(refusal(call, **{**named, name: value}), ERRORS[name])
+        for call in all_calls():
+            for name in call.kinds:
+                error, values = call.wrong(name)
+                for value in values:
+                    self.check(call, error, {name: value})
+
+    def test_two_wrong_arguments_raise_the_error_for_the_earlier(self):
+        for call in all_calls():
+            for first, second in itertools.combinations(call.kinds, 2):
+                error, values = call.wrong(first)
+                for wrong in itertools.product(values, call.wrong(second)[1]):
+                    self.check(call, error, dict(zip((first, second), wrong)))
 
     def test_several_wrong_arguments_raise_the_error_for_the_earliest(self):
-        for call, named in CALLS[3:]:
-            for many in range(2, len(named) + 1):
-                for wrong in itertools.combinations(named, many):
-                    for values in itertools.product(*[BAD[name] for name in wrong]):
-                        # The names come in the order of the interface, so the first of them is the earliest.
-                        given = {**named, **dict(zip(wrong, values))}
-                        self.assertIs(refusal(call, **given), ERRORS[wrong[0]], (call.__name__, given))
+        for call in all_calls():
+            for many in range(3, len(call.kinds) + 1):
+                for names in itertools.combinations(call.kinds, many):
+                    error = call.wrong(names[0])[0]
+                    for wrong in itertools.product(*[call.wrong(name)[1][:3] for name in names]):
+                        self.check(call, error, dict(zip(names, wrong)))
 
     def test_the_order_in_which_arguments_are_named_means_nothing(self):
-        for call, named in CALLS[3:]:
-            for order in itertools.permutations(named):
-                given = {name: BAD[name][0] for name in order}
-                with self.subTest(call.__name__, order=order):
-                    self.assertIs(refusal(call, **given), ERRORS[list(named)[0]])
+        for call in all_calls():
+            if call.kinds:
+                for order in itertools.permutations(call.kinds):
+                    given = {name: call.wrong(name)[1][0] for name in order}
+                    others = {name: value for name, value in call.named.items() if name not in given}
+                    error = call.wrong(list(call.kinds)[0])[0]
+                    self.assertIs(refusal(call.function, **given, **others), error, (call, order))
+
+    def test_parts_that_are_not_even_come_behind_no_part_and_ahead_of_all_others(self):
+        asked = 0
+        for call in all_calls():
+            if call.is_even:
+                asked += 1
+                self.check(call, NoEven, {"part": UNEVEN})
+                self.check(call, NoPart, {"part": list(UNEVEN)})
+                for name in list(call.kinds)[1:]:
+                    for value in call.wrong(name)[1]:
+                        self.check(call, NoEven, {"part": UNEVEN, name: value})
+                self.check(call, NoEven, {"part": UNEVEN, **{name: None for name in list(call.kinds)[1:]}})
+            elif "part" in call.kinds and len(call.kinds) > 1:
+                self.assertIsNot(refusal(call.function, **{**call.named, "part": UNEVEN}), NoEven)
+        self.assertGreater(asked, 10)
+
+    def test_a_thing_is_never_refused(self):
+        for call in all_calls():
+            if "thing" in call.named:
+                for thing in odd_things():
+                    self.check(call, None, {"thing": thing})
+                    self.assertIs(call.again(thing=thing), False)
 
     def test_an_error_is_raised_also_where_the_answer_would_not_need_the_argument(self):
-        self.assertIs(refusal(books.run_book, ((("stop", 1),),), 65536, 0), NoNumber)
+        stop = (("stop", 1),)
+        self.assertIs(refusal(books.run_book, (stop,), 65536, 0), NoNumber)
         for call in (places.places, places.misfits, places.served):
-            self.assertIs(refusal(call, (("stop", 1),), None, []), NoMachine)
-            self.assertIs(refusal(call, (("stop", 1),), MACHINE, [0]), NoForms)
+            self.assertIs(refusal(call, stop, None, []), NoMachine)
+            self.assertIs(refusal(call, stop, MACHINE, [0]), NoForms)
+        for call in (growing.grown, aligned.least, aligned.laid, aligned.helps):
+            self.assertIs(refusal(call, stop, None), NoMachine)
+        self.assertIs(refusal(growing.shows_chain, stop, None, None), NoMachine)
+        self.assertIs(refusal(aligned.shows_help, PART, MACHINE, 1, 1, [0]), NoForms)
+        self.assertIs(refusal(words.cheapest_words, stop, MACHINE, [(2, 1)]), NoPlaced)
+        self.assertIs(refusal(words.no_words, (("load", 1),) + stop, MACHINE, [], -1), NoSize)
+        self.assertIs(refusal(words.shows_no, stop, MACHINE, [], -1, None), NoSize)
+        self.assertIs(refusal(islands.ways, (stop,), MACHINE, [0], [0], [(0, 1)], 0), NoIslands)
+        self.assertIs(refusal(islands.shows_levels, (stop,), MACHINE, [0], [0], [], 1, None), NoGoal)
+        self.assertIs(refusal(islands.lost, (stop,), MACHINE, [0], [-1], []), NoRoom)
+        self.assertIs(refusal(islands.fewest_islands, (stop,), MACHINE, [0], [0], [(0, 1)]), NoIslands)
 
     def test_a_refused_call_changes_nothing_for_the_next_one(self):
-        for (call, named), answer in zip(CALLS[3:], ANSWERS[3:]):
-            for name in named:
-                refusal(call, **{**named, name: None})
-                self.assertEqual(call(**named), answer)
+        for call in all_calls():
+            for name in call.kinds:
+                refusal(call.function, **{**call.named, name: None})
+                self.assertEqual(call.again(), call.answer)
 
 
 class TestBooleans(unittest.TestCase):
@@ -121,7 +156,7 @@ class TestBooleans(unittest.TestCase):
     def check_thing(self, call, good, bad):
         self.assertEqual(good, bad)
         for thing, answer in ((good, True), (bad, False), (good, True)):
-            with self.subTest(call.__name__, thing=thing):
+            with self.subTest(thing=thing):
                 self.assertIs(call(thing), answer)
 
     def check_refused(self, call, good, bad, error):
@@ -138,6 +173,20 @@ class TestBooleans(unittest.TestCase):
         self.check_thing(books.is_book, (part,), (bad_part,))
         self.check_thing(books.is_book, ((("far", 0),),), ((("far", False),),))
 
+    def test_things_of_papers(self):
+        part = (("branch", 2), ("branch", 3), ("plain", 30, 0), ("load", 1), ("stop", 1))
+        self.check_thing(lambda thing: growing.shows_chain(part, MACHINE, thing), [1], [True])
+        given = (part, MACHINE, [], 0)
+        self.check_thing(lambda thing: words.shows_no(*given, thing), ("great", [1]), ("great", [True]))
+        given = ((("load", 1), ("load", 1), ("stop", 1)), MACHINE, [], 0)
+        self.check_thing(lambda thing: words.shows_no(*given, thing), ("lost", [], 1), ("lost", [], True))
+        self.check_thing(lambda thing: words.shows_no(*given, thing), ("lost", [], 0), ("lost", [], False))
+        book = ((("stop", 50),), (("stop", 4),), (("stop", 4),))
+        given = (book, (1, 9, 3, 2, 54, 2, 20, 4), [0, 1, 2], [0, 0, 0], [(1, 2)], 2)
+        self.check_thing(lambda thing: islands.shows_levels(*given, thing), (None, 0, 0), (None, 0, False))
+        given = (book, (1, 9, 3, 2, 70, 2, 20, 4), [0, 1, 2], [0, 0, 0], [(1, 2)], 2)
+        self.check_thing(lambda thing: islands.shows_levels(*given, thing), (1, 0, 0), (True, 0, 0))
+
     def test_runs(self):
         book, bad_book = ((("stop", 1),),), ((("stop", True),),)
         self.check_refused(books.run_book, (book, 1, 1), (bad_book, 1, 1), NoBook)
@@ -146,38 +195,107 @@ class TestBooleans(unittest.TestCase):
         self.check_refused(books.run_book, (book, 0, 1), (book, 0, True), NoNumber)
         self.check_refused(books.run_book, (book, 0, 0), (book, 0, False), NoNumber)
 
-    def test_places(self):
+    def test_parts_machines_and_forms(self):
         part, bad_part = (("branch", 1), ("jump", 0)), (("branch", True), ("jump", 0))
         bad_machine = (True,) + MACHINE[1:]
-        for call in (places.places, places.misfits, places.served):
+        for call in (places.places, places.misfits, places.served, aligned.bar):
             self.check_refused(call, (part, MACHINE, [0]), (bad_part, MACHINE, [0]), NoPart)
             self.check_refused(call, (part, MACHINE, [0]), (part, bad_machine, [0]), NoMachine)
             self.check_refused(call, (part, MACHINE, [0]), (part, MACHINE, [False]), NoForms)
             self.check_refused(call, (part, MACHINE, [0, 1]), (part, MACHINE, [0, True]), NoForms)
+        for call in (growing.grown, aligned.least, aligned.laid, aligned.helps):
+            self.check_refused(call, (part, MACHINE), (bad_part, MACHINE), NoPart)
+            self.check_refused(call, (part, MACHINE), (part, bad_machine), NoMachine)
+
+    def test_rows(self):
+        part = (("branch", 1), ("jump", 0))
+        self.check_refused(aligned.shows_help, (part, MACHINE, 0, 1, []), (part, MACHINE, False, 1, []), NoRow)
+        self.check_refused(aligned.shows_help, (part, MACHINE, 0, 1, []), (part, MACHINE, 0, True, []), NoRow)
+        self.check_refused(aligned.shows_help, (part, MACHINE, 0, 1, [1]), (part, MACHINE, 0, 1, [True]), NoForms)
+
+    def test_words_and_sizes(self):
+        part = (("stop", 1),)
+        self.check_refused(words.with_words, (part, [(1, 1)]), (part, [(True, 1)]), NoPlaced)
+        self.check_refused(words.with_words, (part, [(1, 0)]), (part, [(1, False)]), NoPlaced)
+        self.check_refused(words.cheapest_words, (part, MACHINE, [(1, 1)]), (part, MACHINE, [(1, True)]), NoPlaced)
+        for call, more in ((words.no_words, ()), (words.shows_no, (None,))):
+            good = (part, MACHINE, [(1, 1)], 1) + more
+            self.check_refused(call, good, (part, MACHINE, [(True, 1)], 1) + more, NoPlaced)
+            self.check_refused(call, good, (part, MACHINE, [(1, 1)], True) + more, NoSize)
+
+    def test_orders_rooms_islands_and_goals(self):
+        book = ((("stop", 1),),) * 2
+        good = (book, MACHINE, [0, 1], [0, 1])
+        self.check_refused(islands.extents, good, (book, MACHINE, [False, 1], [0, 1]), NoOrder)
+        self.check_refused(islands.extents, good, (book, MACHINE, [0, True], [0, 1]), NoOrder)
+        self.check_refused(islands.extents, good, (book, MACHINE, [0, 1], [False, 1]), NoRoom)
+        self.check_refused(islands.extents, good, (book, MACHINE, [0, 1], [0, True]), NoRoom)
+        self.check_refused(islands.with_islands, (book, [(0, 1)]), (book, [(False, 1)]), NoIslands)
+        self.check_refused(islands.with_islands, (book, [(0, 1)]), (book, [(0, True)]), NoIslands)
+        for call in (islands.lost, islands.fewest_islands):
+            self.check_refused(call, good + ([(0, 1)],), good + ([(0, True)],), NoIslands)
+        self.check_refused(islands.ways, good + ([(0, 1)], 1), good + ([(0, True)], 1), NoIslands)
+        self.check_refused(islands.ways, good + ([(0, 1)], 1), good + ([(0, 1)], True), NoGoal)
+        self.check_refused(islands.ways, good + ([(0, 1)], 0), good + ([(0, 1)], False), NoGoal)
+        self.check_refused(islands.shows_levels, good + ([], 1, ()), good + ([], True, ()), NoGoal)
 
 
 class TestWhatStaysAsItIs(unittest.TestCase):
 
     def test_arguments_are_unchanged(self):
-        for call, named in CALLS:
-            with self.subTest(call.__name__):
-                self.assertFalse(changes(call, *named.values()))
+        for call in all_calls():
+            with self.subTest(call):
+                self.assertFalse(changes(call.function, *call.named.values()))
 
     def test_arguments_of_refused_calls_are_unchanged(self):
-        for call, named in CALLS[3:]:
-            for name in named:
-                for value in list(BAD[name]) + odd_values():
-                    with self.subTest(call.__name__, name=name, value=repr(value)[:60]):
-                        self.assertFalse(changes(call, *{**named, name: value}.values()))
+        for call in all_calls():
+            for name in call.kinds:
+                for value in list(call.wrong(name)[1]) + odd_values():
+                    given = {**call.named, name: value}
+                    self.assertFalse(changes(call.function, *given.values()), (call, name, value))
+
+    def test_things_are_unchanged(self):
+        for call in all_calls():
+            if "thing" in call.named:
+                for thing in odd_things():
+                    given = {**call.named, "thing": thing}
+                    self.assertFalse(changes(call.function, *given.values()), (call, thing))
+
+    def test_no_two_lists_of_an_answer_are_the_same_and_none_is_an_argument(self):
+        lists = 0
+        for call in all_calls():
+            found = members(call.again()) + members(list(call.named.values()))[1:]
+            self.assertEqual(len({id(one) for one in found}), len(found), call)
+            lists += len(members(call.answer)) > 1
+        self.assertGreater(lists, 4)
 
     def test_what_is_returned_is_new(self):
-        for (call, named), answer in zip(CALLS[4:], ANSWERS[4:]):
-            first, second = call(**named), call(**named)
-            with self.subTest(call.__name__):
-                self.assertIsNot(first, second)
-                first.clear()
-                self.assertEqual(second, answer)
-                self.assertEqual(call(**named), answer)
+        for call in all_calls():
+            first, second = call.again(), call.again()
+            for one in members(first):
+                one.clear()
+            with self.subTest(call):
+                self.assertEqual(second, call.answer)
+                self.assertEqual(call.again(), call.answer)
+
+    def test_later_changes_of_what_is_returned_mean_nothing_for_the_arguments(self):
+        for call in all_calls():
+            named = deepcopy(call.named)
+            for one in members(call.again()):
+                if isinstance(one, list):
+                    one.insert(0, [99])
+                one.clear()
+            with self.subTest(call):
+                self.assertEqual(call.named, named)
+
+    def test_later_changes_of_the_arguments_mean_nothing(self):
+        for call in all_calls():
+            answer, named = call.again(), deepcopy(call.named)
+            for one in members(list(call.named.values()))[1:]:
+                one.clear()
+            with self.subTest(call):
+                self.assertEqual(answer, call.answer)
+                self.assertEqual(call.function(**named), call.answer)
 
     def test_misfits_returns_no_list_that_it_was_handed(self):
         for forms in ([], [1], [3], [1, 3]):
@@ -188,24 +306,16 @@ class TestWhatStaysAsItIs(unittest.TestCase):
                 answer.append(None)
                 self.assertNotIn(None, forms)
 
-    def test_later_changes_of_what_is_returned_mean_nothing(self):
-        forms = [1, 3]
-        for (call, named), answer in zip(CALLS[4:], ANSWERS[4:]):
-            given = {**named, "forms": forms}
-            told = call(**given)
-            told[0] = 99
-            with self.subTest(call.__name__):
-                self.assertEqual(call(**given), answer)
-                self.assertEqual(forms, [1, 3])
-
-    def test_later_changes_of_the_arguments_mean_nothing(self):
-        for (call, named), answer in zip(CALLS[4:], ANSWERS[4:]):
-            forms = [1, 3]
-            told = call(**{**named, "forms": forms})
-            forms.clear()
-            with self.subTest(call.__name__):
-                self.assertEqual(told, answer)
-                self.assertEqual(call(**{**named, "forms": [1, 3]}), answer)
+    def test_no_chosen_list_is_the_one_it_was_chosen_from(self):
+        pairs = [(1, 7)]
+        answer = words.cheapest_words((("load", 7), ("stop", 1)), MACHINE, pairs)
+        self.assertEqual(answer, (8, pairs))
+        self.assertIsNot(answer[1], pairs)
+        book = ((("far", 2),), (("stop", 50),), (("stop", 4),))
+        pairs = [(1, 2)]
+        answer = islands.fewest_islands(book, (1, 9, 3, 2, 70, 2, 20, 4), [0, 1, 2], [0, 0, 0], pairs)
+        self.assertEqual(answer, pairs)
+        self.assertIsNot(answer, pairs)
 
 
 if __name__ == "__main__":

@@ -1,9 +1,13 @@
-"""The examples of the document for books and places."""
+"""The examples of the document for the modules that there are."""
 
 import unittest
 
+from reachrows.aligned import bar, helps, least
 from reachrows.books import run_book
+from reachrows.growing import grown
+from reachrows.islands import lost, ways
 from reachrows.places import misfits, places
+from reachrows.words import cheapest_words, no_words
 
 
 class TestExamples(unittest.TestCase):
@@ -23,6 +27,46 @@ class TestExamples(unittest.TestCase):
         self.assertEqual(
             [places(part, machine, [0]), misfits(part, machine, [0]), places(part, machine, [])],
             [[0, 1, 10, 11], [0], [0, 3, 12, 13]],
+        )
+
+    def test_grown(self):
+        machine = (1, 9, 3, 2, 60, 2, 20, 4)
+        part = (("branch", 3), ("plain", 8, 0), ("jump", 0), ("stop", 1))
+        self.assertEqual(grown(part, machine), ([], [0, 2]))
+
+    def test_least_helps_and_bar(self):
+        machine = (1, 13, 3, 2, 60, 2, 20, 4)
+        part = (("branch", 4), ("branch", 4), ("plain", 9, 1), ("align", 16), ("stop", 1))
+        self.assertEqual(
+            [least(part, machine), helps(part, machine), bar(part, machine, [0, 1])],
+            [[1], [(0, 1)], 0],
+        )
+
+    def test_cheapest_words(self):
+        machine = (1, 9, 3, 2, 60, 2, 20, 4)
+        part = (("load", 7), ("plain", 30, 0), ("stop", 1))
+        self.assertEqual(cheapest_words(part, machine, [(1, 7), (3, 7)]), (38, [(1, 7)]))
+
+    def test_no_words(self):
+        machine = (1, 9, 3, 2, 60, 2, 20, 4)
+        part = (("load", 7), ("plain", 30, 0), ("stop", 1))
+        self.assertEqual(
+            [
+                no_words(part, machine, [(3, 7)], 38), no_words(part, machine, [(1, 7)], 38),
+                no_words(part, machine, [(1, 7)], 39),
+            ],
+            [("lost", [], 0), ("great", []), None],
+        )
+
+    def test_lost_and_ways(self):
+        machine = (1, 9, 3, 2, 70, 2, 20, 4)
+        book = ((("far", 2),), (("stop", 50),), (("stop", 4),))
+        self.assertEqual(
+            [
+                lost(book, machine, [0, 1, 2], [0, 0, 0], []),
+                ways(book, machine, [0, 1, 2], [0, 0, 0], [(1, 2)], 2),
+            ],
+            [[(0, 2)], ([1], [], [])],
         )
 
 

@@ -1,0 +1,194 @@
+"""Calls of all functions: good arguments, by their names and in their order, what they return, and wrong arguments."""
+
+from copy import deepcopy
+
+from reachrows import aligned, books, growing, islands, places, words
+from reachrows.errors import (
+    NoBook, NoForms, NoGoal, NoIslands, NoMachine, NoNumber, NoOrder, NoPart, NoPlaced, NoRoom, NoRow, NoSize,
+)
+from tests.support import MACHINE, machine_with, nested
+
+# Row 1 fits only if it is long, then row 3 does not fit either.
+PART = (("load", 7), ("branch", 3), ("plain", 20, 1), ("jump", 0), ("word", 7))
+UNEVEN = (("branch", 4), ("branch", 4), ("plain", 9, 1), ("align", 16), ("stop", 1))
+HELPING = machine_with(reach=13)
+TWO = ((("plain", 1, 3), ("branch", 3), ("stop", 1), ("far", 1)), (("stop", 2),))
+THREE = ((("far", 2),), (("stop", 50),), (("stop", 4),))
+LEAPING = machine_with(leap=70)
+
+# For each kind of argument the error, and values that are wrong in every one of the calls.
+WRONG = {
+    "part": (NoPart, (
+        None, True, list(PART), PART[:2] + PART[4:], (), PART[:3] + (["jump", 0],) + PART[4:], (("stop", True),),
+        nested(tuple, 10), {},
+    )),
+    "machine": (NoMachine, (
+        None, False, list(MACHINE), MACHINE[:7], (), MACHINE + (1,), (True,) + MACHINE[1:], nested(dict, 10),
+    )),
+    "forms": (NoForms, (
+        None, False, (1, 3), (), [3, 1], [1, 1], [True], [1, True], [2], [5], [-1], {1: 3}, nested(list, 10),
+    )),
+    "row": (NoRow, (None, True, False, 2, 4, 5, -1, -4, "1", (1,), [1], {1: 1}, nested(tuple, 10))),
+    "placed": (NoPlaced, (
+        None, True, (), ((1, 7),), [[1, 7]], [(1, 7), (1, 7)], [(2, 7), (1, 7)], [(0, 7)], [(6, 7)], [(1, 65536)],
+        [(1, True)], [(True, 7)], {1: 7}, [(1, value) for value in range(20)], nested(list, 10),
+    )),
+    "size": (NoSize, (None, True, False, -1, 10 ** 6 + 1, "1", (1,), [1], {1: 1})),
+    "book": (NoBook, (
+        None, True, [(("stop", 1),)], ((("far", 3),),), (), ([("stop", 1)],), (("stop", 1),), ((("stop", True),),),
+        ((("stop", 1),),) * 6, nested(list, 10),
+    )),
+    "number": (NoNumber, (None, True, False, -1, 65536, "1", (1,), [1], {1: 1})),
+    "order": (NoOrder, (
+        None, True, (0, 1, 2), [], [0, 1], [0, 1, 1], [0, 1, 3], [False, 1, 2], [0, True, 2], {0: 0, 1: 1, 2: 2},
+        nested(list, 10),
+    )),
+    "room": (NoRoom, (
+        None, True, (0, 0, 0), [], [0, 0], [0, 0, -1], [0, 10000, 0], [False, 0, 0], [0] * 4, {0: 0, 1: 0, 2: 0},
+        nested(list, 10),
+    )),
+    "islands": (NoIslands, (
+        None, True, ((1, 2),), (), [[1, 2]], [(1, 2), (1, 2)], [(1, 2), (0, 1)], [(3, 0)], [(0, 3)], [(True, 2)],
+        [(1, True)], {1: 2}, [(0, -1)], nested(list, 10),
+    )),
+    "goal": (NoGoal, (None, True, False, -1, 3, 4, "1", (1,), [1], {1: 1})),
+}
+WRONG["few placed"] = (NoPlaced, WRONG["placed"][1] + ([(5, value) for value in range(6)],))
+WRONG["few islands"] = (NoIslands, WRONG["islands"][1] + ([(0, 0), (0, 1), (0, 2), (1, 0), (1, 1), (1, 2), (2, 0)],))
+
+# The kinds of those arguments that have other names.
+KINDS = {"limit": "number", "total": "number", "a": "row", "b": "row"}
+
+
+class Call:
+    """One call of a function, and what it returns."""
+
+    def __init__(self, function, answer, kinds, **named):
+        self.function = function
+        self.answer = answer
+        # Calls are made from the same lists, and each one is to have its own.
+        self.named = deepcopy(named)
+        self.kinds = {name: kinds.get(name, KINDS.get(name, name)) for name in named if name != "thing"}
+        self.is_even = "even" in kinds
+
+    def __repr__(self):
+        return f"{self.function.__name__}({self.named})"
+
+    def wrong(self, name):
+        """The error for the argument, and its wrong values."""
+        return WRONG[self.kinds[name]]
+
+    def again(self, **others):
+        """The call with other values for some of its arguments."""
+        return self.function(**{**self.named, **others})
+
+
+def stage_1():
+    """The calls of stage 1."""
+    few = {"part": PART, "machine": MACHINE, "forms": [1, 3]}
+    return [
+        Call(books.is_machine, True, {}, thing=MACHINE),
+        Call(books.is_part, True, {}, thing=PART),
+        Call(books.is_book, True, {}, thing=TWO),
+        Call(books.run_book, ("stop", 9, 4), {}, book=TWO, total=6, limit=10),
+        Call(places.places, [0, 2, 3, 23, 24, 28], {}, **few),
+        Call(places.misfits, [1, 3], {}, **few),
+        Call(places.served, {0: None}, {}, **few),
+    ]
+
+
+def stage_3():
+    """The calls of growing."""
+    even = {"even": True}
+    return [
+        Call(growing.grown, ([], [1, 3]), even, part=PART, machine=MACHINE),
+        Call(growing.grown, ([1, 3], []), even, part=PART, machine=machine_with(reach=99)),
+        Call(growing.grown, ([], []), even, part=(("stop", 1),), machine=MACHINE),
+        Call(growing.shows_chain, True, even, part=PART, machine=MACHINE, thing=[3, 1]),
+        Call(growing.shows_chain, False, even, part=PART, machine=MACHINE, thing=[0]),
+    ]
+
+
+def stage_4():
+    """The calls of aligned."""
+    rival = {"rival": "forms"}
+    uneven = {"part": UNEVEN, "machine": HELPING}
+    return [
+        Call(aligned.least, [], {}, part=PART, machine=MACHINE),
+        Call(aligned.least, [1], {}, **uneven),
+        Call(aligned.bar, 1, rival, part=PART, machine=MACHINE, rival=[1, 3]),
+        Call(aligned.bar, None, rival, part=PART, machine=MACHINE, rival=[]),
+        Call(aligned.laid, ([], [0, 2, 5, 25, 28, 32]), {}, part=PART, machine=MACHINE),
+        Call(aligned.laid, ([1], [0, 3, 4, 13, 16, 17]), {}, **uneven),
+        Call(aligned.helps, [(0, 1)], {}, **uneven),
+        Call(aligned.helps, [], {}, part=PART, machine=MACHINE),
+        Call(aligned.shows_help, False, rival, part=PART, machine=MACHINE, a=3, b=1, rival=[1, 3]),
+    ]
+
+
+def stage_5():
+    """The calls of words."""
+    even = {"even": True, "pairs": "few placed", "rival": "placed"}
+    wide = {"part": PART, "machine": machine_with(span=4)}
+    rows = (("load", 7), ("branch", 5), ("jump", 4), ("word", 7), ("plain", 20, 1), ("jump", 0), ("word", 7))
+    return [
+        Call(words.with_words, (rows, [0, 1, 4, 5, 6]), {}, part=PART, placed=[(2, 7)]),
+        Call(words.with_words, (PART, [0, 1, 2, 3, 4]), {}, part=PART, placed=[]),
+        Call(words.cheapest_words, (37, [(1, 7)]), even, **wide, pairs=[(1, 7), (2, 7), (5, 7)]),
+        Call(words.cheapest_words, None, even, **wide, pairs=[]),
+        Call(words.cheapest_words, (32, []), even, part=PART, machine=machine_with(span=40), pairs=[(1, 7)]),
+        Call(words.no_words, ("lost", [1, 5], 0), even, **wide, rival=[(2, 7)], size=0),
+        Call(words.no_words, ("great", [3, 5]), even, **wide, rival=[(1, 7)], size=37),
+        Call(words.no_words, None, even, **wide, rival=[(1, 7)], size=38),
+        Call(words.shows_no, True, even, **wide, rival=[(1, 7)], size=37, thing=("great", [5, 3])),
+        Call(words.shows_no, False, even, **wide, rival=[(1, 7)], size=37, thing=("lost", [], 0)),
+    ]
+
+
+def stage_6():
+    """The calls of islands."""
+    laid_out = {"book": THREE, "machine": LEAPING, "order": [0, 1, 2], "room": [0, 0, 0]}
+    few = {"pairs": "few islands"}
+    rows = ((("far", 2),), (("stop", 50), ("far", 2)), (("stop", 4),))
+    return [
+        Call(islands.extents, [(0, 2), (16, 66), (80, 84)], {}, **laid_out),
+        Call(islands.with_islands, rows, {}, book=THREE, islands=[(1, 2)]),
+        Call(islands.ways, ([1], [], []), {}, **laid_out, islands=[(1, 2)], goal=2),
+        Call(islands.ways, ([], [], []), {}, **{**laid_out, "machine": machine_with(leap=99)}, islands=[], goal=2),
+        Call(islands.shows_levels, True, {}, **laid_out, islands=[(1, 2)], goal=2, thing=(1, 0, 0)),
+        Call(islands.shows_levels, False, {}, **laid_out, islands=[(1, 2)], goal=2, thing=[1, 0, 0]),
+        Call(islands.lost, [], {}, **laid_out, islands=[(1, 2)]),
+        Call(islands.lost, [(0, 2)], {}, **laid_out, islands=[]),
+        Call(islands.fewest_islands, [(1, 2)], few, **laid_out, pairs=[(0, 1), (1, 2), (2, 2)]),
+        Call(islands.fewest_islands, None, few, **laid_out, pairs=[]),
+        Call(islands.fewest_islands, [], few, **{**laid_out, "order": [0, 2, 1]}, pairs=[(1, 2)]),
+    ]
+
+
+def all_calls():
+    """All calls, made anew."""
+    return stage_1() + stage_3() + stage_4() + stage_5() + stage_6()
+
+
+# The names and the order of all arguments, under the file that the interface lists the function in.
+INTERFACE = {
+    "reachrows.books": ("is_machine(thing)", "is_part(thing)", "is_book(thing)", "run_book(book, total, limit)"),
+    "reachrows.places": (
+        "places(part, machine, forms)", "misfits(part, machine, forms)", "served(part, machine, forms)",
+    ),
+    "reachrows.growing": ("grown(part, machine)", "shows_chain(part, machine, thing)"),
+    "reachrows.aligned": (
+        "least(part, machine)", "bar(part, machine, rival)", "laid(part, machine)", "helps(part, machine)",
+        "shows_help(part, machine, a, b, rival)",
+    ),
+    "reachrows.words": (
+        "with_words(part, placed)", "cheapest_words(part, machine, pairs)", "no_words(part, machine, rival, size)",
+        "shows_no(part, machine, rival, size, thing)",
+    ),
+    "reachrows.islands": (
+        "extents(book, machine, order, room)", "with_islands(book, islands)",
+        "ways(book, machine, order, room, islands, goal)",
+        "shows_levels(book, machine, order, room, islands, goal, thing)",
+        "lost(book, machine, order, room, islands)", "fewest_islands(book, machine, order, room, pairs)",
+    ),
+}
