@@ -132,6 +132,11 @@ def is_book(thing):
     return all([goal < len(thing) for part in thing for goal in far_goals(part)])
 
 
+def with_part(book, p, part):
+    """The book with the part in the place of part p; not every part makes a book."""
+    return book[:p] + (part,) + book[p + 1:]
+
+
 def check_part(part):
     """Raise NoPart if the part is none."""
     if not is_part(part):

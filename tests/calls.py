@@ -1,10 +1,11 @@
-"""Calls of all functions: good arguments, by their names and in their order, what they return, and wrong arguments."""
+"""Calls of all functions and methods: good arguments, in their order, what they return, and wrong arguments."""
 
 from copy import deepcopy
 
-from reachrows import aligned, books, growing, islands, places, words
+from reachrows import aligned, books, growing, islands, orders, places, room, shelves, words
 from reachrows.errors import (
-    NoBook, NoForms, NoGoal, NoIslands, NoMachine, NoNumber, NoOrder, NoPart, NoPlaced, NoRoom, NoRow, NoSize,
+    NoBook, NoChange, NoEdits, NoForms, NoGoal, NoIslands, NoMachine, NoNumber, NoOrder, NoPart, NoPlaced, NoRoom,
+    NoRow, NoSize,
 )
 from tests.support import MACHINE, machine_with, nested
 
@@ -52,6 +53,12 @@ WRONG = {
         [(1, True)], {1: 2}, [(0, -1)], nested(list, 10),
     )),
     "goal": (NoGoal, (None, True, False, -1, 3, 4, "1", (1,), [1], {1: 1})),
+    "edits": (NoEdits, (
+        None, True, (), ((0, PART),), [None], [[0, PART]], [(3, PART)], [(True, PART)], [(0, list(PART))],
+        [(0, (("far", 3),))], [(0, (("stop", True),))], {0: PART}, [(0, (("stop", 1),))] * 7, nested(list, 10),
+    )),
+    "change": (NoChange, (None, True, False, -1, 3, 4, "1", (1,), [1], {1: 1}, nested(tuple, 10))),
+    "moves": (NoNumber, (None, True, False, -1, 5, "1", (1,), [1], {1: 1})),
 }
 WRONG["few placed"] = (NoPlaced, WRONG["placed"][1] + ([(5, value) for value in range(6)],))
 WRONG["few islands"] = (NoIslands, WRONG["islands"][1] + ([(0, 0), (0, 1), (0, 2), (1, 0), (1, 1), (1, 2), (2, 0)],))
@@ -63,16 +70,21 @@ KINDS = {"limit": "number", "total": "number", "a": "row", "b": "row"}
 class Call:
     """One call of a function, and what it returns."""
 
-    def __init__(self, function, answer, kinds, **named):
-        self.function = function
+    def __init__(self, called, answer, kinds, **named):
+        self.called = called
         self.answer = answer
         # Calls are made from the same lists, and each one is to have its own.
         self.named = deepcopy(named)
         self.kinds = {name: kinds.get(name, KINDS.get(name, name)) for name in named if name != "thing"}
         self.is_even = "even" in kinds
 
+    @property
+    def function(self):
+        """What is called."""
+        return self.called
+
     def __repr__(self):
-        return f"{self.function.__name__}({self.named})"
+        return f"{self.function.__qualname__}({self.named})"
 
     def wrong(self, name):
         """The error for the argument, and its wrong values."""
@@ -81,6 +93,16 @@ class Call:
     def again(self, **others):
         """The call with other values for some of its arguments."""
         return self.function(**{**self.named, **others})
+
+
+class MethodCall(Call):
+    """One call of a method, each time of a new object: what is called is (the maker of the object, the name)."""
+
+    @property
+    def function(self):
+        """The method of a new object."""
+        make, name = self.called
+        return getattr(make(), name)
 
 
 def stage_1():
@@ -165,12 +187,64 @@ def stage_6():
     ]
 
 
+def stage_7():
+    """The calls of orders."""
+    given = {"book": THREE, "machine": machine_with(leap=40), "room": [0, 0, 0]}
+    both = ((("far", 1), ("far", 2)), (("stop", 4),), (("stop", 4),))
+    few = {"pairs": "few islands"}
+    return [
+        Call(orders.best_order, ([0, 2, 1], []), few, **given, pairs=[(1, 2)]),
+        Call(orders.best_order, ([0, 1, 2], [(1, 2)]), few, **{**given, "book": both, "machine": machine_with(leap=30)},
+             pairs=[(1, 2), (2, 1)]),
+        Call(orders.best_order, None, few, **{**given, "machine": machine_with(leap=9)}, pairs=[]),
+    ]
+
+
+def stage_8():
+    """The calls of room."""
+    given = {"book": THREE, "machine": MACHINE}
+    edits = [(2, (("stop", 3),)), (1, (("stop", 60),)), (1, (("far", 2), ("stop", 99))), (2, THREE[2])]
+    return [
+        Call(room.reserve, ([0, 51, 0], [None, 2, None]), {}, **given, edits=edits),
+        Call(room.reserve, ([0, 0, 0], [None, None, None]), {}, **given, edits=[]),
+    ]
+
+
+def moved_shelf():
+    """A shelf that has told four moves, and of which one edit can be taken back."""
+    shelf = shelves.Shelf(THREE, MACHINE, [0, 2, 1], [(1, (("stop", 60),))])
+    for p, size in ((0, 17), (2, 17)):
+        shelf.edit(p, (("stop", size),))
+    shelf.undo()
+    return shelf
+
+
+def stage_9():
+    """The calls of shelves."""
+    given = {"book": THREE, "machine": MACHINE, "order": [0, 2, 1]}
+    edits = [(1, (("stop", 60),)), (2, (("far", 2),))]
+    moves = [(1, 32, 48), (2, 16, 32), (1, 48, 64), (1, 64, 48)]
+    book = ((("stop", 17),), (("stop", 50),), (("stop", 4),))
+    return [
+        Call(shelves.Shelf, shelves.Shelf(**given, edits=list(edits)), {}, **given, edits=edits),
+        Call(shelves.Shelf, shelves.Shelf(**given, edits=[]), {}, **given, edits=[]),
+        MethodCall((moved_shelf, "edit"), None, {"p": "change"}, p=1, part=PART),
+        MethodCall((moved_shelf, "undo"), None, {}),
+        MethodCall((moved_shelf, "as_book"), book, {}),
+        MethodCall((moved_shelf, "firsts"), [0, 48, 32], {}),
+        MethodCall((moved_shelf, "moves"), moves, {"n": "moves"}, n=0),
+        MethodCall((moved_shelf, "moves"), moves[3:], {"n": "moves"}, n=3),
+        MethodCall((moved_shelf, "moves"), [], {"n": "moves"}, n=4),
+    ]
+
+
 def all_calls():
     """All calls, made anew."""
-    return stage_1() + stage_3() + stage_4() + stage_5() + stage_6()
+    calls = stage_1() + stage_3() + stage_4() + stage_5() + stage_6()
+    return calls + stage_7() + stage_8() + stage_9()
 
 
-# The names and the order of all arguments, under the file that the interface lists the function in.
+# The names and the order of all arguments, under the file that the interface lists the function or class in.
 INTERFACE = {
     "reachrows.books": ("is_machine(thing)", "is_part(thing)", "is_book(thing)", "run_book(book, total, limit)"),
     "reachrows.places": (
@@ -190,5 +264,11 @@ INTERFACE = {
         "ways(book, machine, order, room, islands, goal)",
         "shows_levels(book, machine, order, room, islands, goal, thing)",
         "lost(book, machine, order, room, islands)", "fewest_islands(book, machine, order, room, pairs)",
+    ),
+    "reachrows.orders": ("best_order(book, machine, room, pairs)",),
+    "reachrows.room": ("reserve(book, machine, edits)",),
+    "reachrows.shelves": (
+        "Shelf(book, machine, order, edits)", "Shelf.edit(self, p, part)", "Shelf.undo(self)", "Shelf.as_book(self)",
+        "Shelf.firsts(self)", "Shelf.moves(self, n)",
     ),
 }

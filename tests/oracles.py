@@ -208,6 +208,37 @@ def fewest_told(book, machine, order, room, pairs):
     return min(good, key=lambda some: (len(some), some), default=None)
 
 
+def best_told(book, machine, room, pairs):
+    """The order and the islands, of all that there are."""
+    wanted = [(number, row[1]) for number, part in enumerate(book) for row in part if row[0] == "far"]
+    sizes = [size_told(part, machine, least_told(part, machine)) for part in book]
+    good = []
+    for order in itertools.permutations(range(len(book))):
+        for some in all_lists(pairs) if order[0] == 0 else []:
+            extents, address = {}, 0
+            for part in order:
+                while address % 16 != 0:
+                    address += 1
+                islands = [pair for pair in some if pair[0] == part]
+                extents[part] = (address, address + sizes[part] + machine[3] * len(islands) + room[part])
+                address = extents[part][1]
+            if all(way_told(extents, machine[4], some, part, goal) is not None for part, goal in wanted):
+                good.append((len(some), list(order), some))
+    return min(good)[1:] if good else None
+
+
+def reserve_told(book, machine, edits):
+    """The room and its reasons, part by part."""
+    sizes = [size_told(part, machine, least_told(part, machine)) for part in book]
+    room, reasons = [], []
+    for number, size in enumerate(sizes):
+        own = {at: part for at, (p, part) in enumerate(edits) if p == number}
+        more = {at: size_told(part, machine, least_told(part, machine)) - size for at, part in own.items()}
+        room.append(max([0, *more.values()]))
+        reasons.append(min([at for at in more if more[at] == room[-1] > 0], default=None))
+    return room, reasons
+
+
 def some_rows(numbers, many, kinds, values=(1, 2), parts=1, size=9):
     """Some rows of these kinds that are a part, if there is no "align" beside more than 6 jumps."""
     words = []

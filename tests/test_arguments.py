@@ -6,9 +6,10 @@ import unittest
 from copy import deepcopy
 from importlib import import_module
 
-from reachrows import aligned, books, growing, islands, places, words
+from reachrows import aligned, books, growing, islands, orders, places, room, shelves, words
 from reachrows.errors import (
-    NoBook, NoEven, NoForms, NoGoal, NoIslands, NoMachine, NoNumber, NoOrder, NoPart, NoPlaced, NoRoom, NoRow, NoSize,
+    NoBook, NoChange, NoEdits, NoEven, NoForms, NoGoal, NoIslands, NoMachine, NoNumber, NoOrder, NoPart, NoPlaced,
+    NoRoom, NoRow, NoSize,
 )
 from tests.calls import INTERFACE, PART, UNEVEN, all_calls
 from tests.support import MACHINE, changes, odd_things, odd_values, refusal
@@ -27,17 +28,23 @@ def members(value):
 
 class TestInterface(unittest.TestCase):
 
-    def test_each_function_is_defined_in_the_file_that_lists_it(self):
+    def test_each_function_and_class_is_defined_in_the_file_that_lists_it(self):
         for file, signatures in INTERFACE.items():
             for signature in signatures:
                 with self.subTest(file, signature=signature):
-                    function = getattr(import_module(file), signature.split("(")[0])
-                    self.assertTrue(inspect.isfunction(function))
-                    self.assertEqual(function.__module__, file)
-                    self.assertEqual(function.__name__ + str(inspect.signature(function)), signature)
+                    listed = import_module(file)
+                    for name in signature.split("(")[0].split("."):
+                        # A method stands in the class itself, not only in a base class.
+                        listed = vars(listed)[name]
+                    self.assertTrue(inspect.isfunction(listed) or inspect.isclass(listed))
+                    self.assertEqual(listed.__module__, file)
+                    self.assertEqual(listed.__qualname__ + str(inspect.signature(listed)), signature)
+
+    def test_each_class_has_its_own_len_and_equality(self):
+        self.assertLessEqual({"__init__", "__len__", "__eq__"}, set(vars(shelves.Shelf)))
 
     def test_each_function_is_called_here(self):
-        called = {(call.function.__module__, call.function.__name__) for call in all_calls()}
+        called = {(call.function.__module__, call.function.__qualname__) for call in all_calls()}
         listed = {(file, one.split("(")[0]) for file, signatures in INTERFACE.items() for one in signatures}
         self.assertEqual(called, listed)
 
@@ -142,6 +149,10 @@ class TestErrorsOfArguments(unittest.TestCase):
         self.assertIs(refusal(islands.shows_levels, (stop,), MACHINE, [0], [0], [], 1, None), NoGoal)
         self.assertIs(refusal(islands.lost, (stop,), MACHINE, [0], [-1], []), NoRoom)
         self.assertIs(refusal(islands.fewest_islands, (stop,), MACHINE, [0], [0], [(0, 1)]), NoIslands)
+        self.assertIs(refusal(orders.best_order, (stop,), MACHINE, [0], [(0, 1)]), NoIslands)
+        self.assertIs(refusal(room.reserve, (stop,), None, []), NoMachine)
+        self.assertIs(refusal(room.reserve, (stop,), MACHINE, [(0, stop)] * 6 + [None]), NoEdits)
+        self.assertIs(refusal(shelves.Shelf, (stop,), None, [0], []), NoMachine)
 
     def test_a_refused_call_changes_nothing_for_the_next_one(self):
         for call in all_calls():
@@ -238,6 +249,23 @@ class TestBooleans(unittest.TestCase):
         self.check_refused(islands.ways, good + ([(0, 1)], 1), good + ([(0, 1)], True), NoGoal)
         self.check_refused(islands.ways, good + ([(0, 1)], 0), good + ([(0, 1)], False), NoGoal)
         self.check_refused(islands.shows_levels, good + ([], 1, ()), good + ([], True, ()), NoGoal)
+        good = (book, MACHINE, [0, 1])
+        self.check_refused(orders.best_order, good + ([],), (book, MACHINE, [False, 1], []), NoRoom)
+        self.check_refused(orders.best_order, good + ([(0, 1)],), good + ([(0, True)],), NoIslands)
+
+    def test_edits_and_changes(self):
+        book, part, bad_part = ((("stop", 1),),) * 2, (("stop", 1),), (("stop", True),)
+        self.check_refused(room.reserve, (book, MACHINE, [(1, part)]), (book, MACHINE, [(True, part)]), NoEdits)
+        self.check_refused(room.reserve, (book, MACHINE, [(0, part)]), (book, MACHINE, [(0, bad_part)]), NoEdits)
+        good = (book, MACHINE, [0, 1], [(0, part)])
+        self.check_refused(shelves.Shelf, good, (book, MACHINE, [0, True], [(0, part)]), NoOrder)
+        self.check_refused(shelves.Shelf, good, (book, MACHINE, [0, 1], [(False, part)]), NoEdits)
+        shelf = shelves.Shelf(*good)
+        self.check_refused(shelf.edit, (1, part), (True, part), NoChange)
+        self.check_refused(shelf.edit, (0, part), (0, bad_part), NoPart)
+        self.check_refused(shelf.moves, (0,), (False,), NoNumber)
+        shelf.edit(0, (("stop", 17),))
+        self.check_refused(shelf.moves, (1,), (True,), NoNumber)
 
 
 class TestWhatStaysAsItIs(unittest.TestCase):
@@ -316,6 +344,10 @@ class TestWhatStaysAsItIs(unittest.TestCase):
         answer = islands.fewest_islands(book, (1, 9, 3, 2, 70, 2, 20, 4), [0, 1, 2], [0, 0, 0], pairs)
         self.assertEqual(answer, pairs)
         self.assertIsNot(answer, pairs)
+        book = ((("far", 1), ("far", 2)), (("stop", 4),), (("stop", 4),))
+        answer = orders.best_order(book, (1, 9, 3, 2, 30, 2, 20, 4), [0, 0, 0], pairs)
+        self.assertEqual(answer, ([0, 1, 2], pairs))
+        self.assertIsNot(answer[1], pairs)
 
 
 if __name__ == "__main__":

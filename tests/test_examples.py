@@ -6,7 +6,9 @@ from reachrows.aligned import bar, helps, least
 from reachrows.books import run_book
 from reachrows.growing import grown
 from reachrows.islands import lost, ways
+from reachrows.orders import best_order
 from reachrows.places import misfits, places
+from reachrows.shelves import Shelf
 from reachrows.words import cheapest_words, no_words
 
 
@@ -67,6 +69,22 @@ class TestExamples(unittest.TestCase):
                 ways(book, machine, [0, 1, 2], [0, 0, 0], [(1, 2)], 2),
             ],
             [[(0, 2)], ([1], [], [])],
+        )
+
+    def test_best_order(self):
+        machine = (1, 9, 3, 2, 60, 2, 20, 4)
+        book = ((("far", 2),), (("stop", 50),), (("stop", 4),))
+        self.assertEqual(best_order(book, machine, [0, 0, 0], [(1, 2)]), ([0, 2, 1], []))
+
+    def test_a_shelf(self):
+        machine = (1, 9, 3, 2, 60, 2, 20, 4)
+        book = ((("far", 2),), (("stop", 50),), (("stop", 4),))
+        shelf = Shelf(book, machine, [0, 1, 2], [(1, (("stop", 60),))])
+        self.assertIs(shelf.edit(1, (("stop", 60),)), None)
+        self.assertIs(shelf.edit(1, (("stop", 70),)), None)
+        self.assertEqual(
+            [shelf.firsts(), shelf.moves(0), len(shelf), shelf.undo(), shelf.firsts(), shelf.moves(1)],
+            [[0, 16, 96], [(2, 80, 96)], 2, None, [0, 16, 80], [(2, 96, 80)]],
         )
 
 

@@ -7,6 +7,9 @@ from reachrows.aligned import helps, laid, least, shows_help
 from reachrows.errors import NoPlaced
 from reachrows.growing import grown, shows_chain
 from reachrows.islands import extents, fewest_islands, lost, shows_levels, ways
+from reachrows.orders import best_order
+from reachrows.room import reserve
+from reachrows.shelves import Shelf
 from reachrows.words import cheapest_words, no_words, shows_no, with_words
 from tests.support import MACHINE, machine_with
 from tests.test_growing import CASCADE, CASCADE_MACHINE
@@ -71,6 +74,32 @@ class TestSpeed(unittest.TestCase):
         self.check(lost, *given, PAIRS)
         self.check(fewest_islands, *given, PAIRS)
         self.check(fewest_islands, BOOK, machine_with(leap=0), ORDER, ROOM, PAIRS)
+
+    def test_all_orders_and_all_lists_of_six_pairs(self):
+        book = tuple(FULL[:12] + tuple(("far", goal) for goal in range(5)) for _ in range(5))
+        self.assertIsNone(self.check(best_order, book, machine_with(leap=0), ROOM, PAIRS))
+        self.check(best_order, book, LEAPING, ROOM, PAIRS)
+
+    def test_six_edits(self):
+        self.check(reserve, BOOK, LEAPING, [(part, ALIGNED) for part in (0, 1, 2, 3, 4, 0)])
+
+    def test_many_edits_and_undos(self):
+        shelf = self.check(Shelf, BOOK, LEAPING, ORDER, [(part, ALIGNED) for part in (0, 1, 2, 3, 4, 0)])
+
+        def changes():
+            for turn in range(300):
+                shelf.edit(turn % 5, (("stop", 1 + turn % 99),) * 20)
+                if turn % 3 == 0:
+                    shelf.undo()
+
+        self.check(changes)
+        self.check(len, shelf)
+        for n in (0, len(shelf.moves(0))):
+            self.check(shelf.moves, n)
+        self.check(shelf.undo)
+        self.check(shelf.edit, 0, ALIGNED)
+        self.check(shelf.firsts)
+        self.check(shelf.__eq__, shelf)
 
 
 if __name__ == "__main__":

@@ -1,4 +1,4 @@
-"""[24]: what holds of parts and words."""
+"""[24]: what holds of parts, words and shelves."""
 
 import unittest
 
@@ -11,6 +11,7 @@ from tests.oracles import GOING_ON, all_forms, between, jumps_of, some_machine, 
 from tests.support import Numbers
 from tests.test_growing import EVEN_KINDS
 from tests.test_least import ALIGNED_KINDS, aligned_parts
+from tests.test_shelf_histories import some_change, some_shelf
 
 ALL_KINDS = ("plain", "branch", "branch", "jump", "load", "word", "word", "stop", "far", "align")
 
@@ -151,6 +152,49 @@ class TestWordsPutIn(unittest.TestCase):
             self.assertLessEqual({table[row] for row in chain}, set(chain_with), (part, machine, spot, value))
             became += len(chain) > 0
         self.assertGreater(became, 50)
+
+
+class TestShelves(unittest.TestCase):
+
+    def test_as_long_as_only_reserved_edits_and_undos_come_no_part_moves(self):
+        numbers = Numbers(247)
+        edited = 0
+        for _ in range(200):
+            shelf, _, edits = some_shelf(numbers)
+            firsts = shelf.firsts()
+            for _ in range(12):
+                if edits and numbers.below(3) > 0:
+                    shelf.edit(*numbers.one_of(edits))
+                    edited += 1
+                elif len(shelf) > 0:
+                    shelf.undo()
+                self.assertEqual((shelf.firsts(), shelf.moves(0)), (firsts, []))
+        self.assertGreater(edited, 500)
+
+    def test_whoever_applies_the_moves_has_the_present_firsts(self):
+        numbers = Numbers(248)
+        applied = 0
+        for _ in range(200):
+            shelf, _, edits = some_shelf(numbers)
+            holders = []
+            for _ in range(10):
+                change = some_change(numbers, edits, shelf.as_book())
+                if change:
+                    shelf.edit(*change)
+                elif len(shelf) > 0:
+                    shelf.undo()
+                for holder in holders:
+                    # Each holder asks now and then, for all that was told since.
+                    if numbers.below(2) == 0:
+                        moves = shelf.moves(holder["next"])
+                        for part, before, after in moves:
+                            self.assertEqual(holder["firsts"][part], before)
+                            holder["firsts"][part] = after
+                        holder["next"] += len(moves)
+                        applied += len(moves)
+                        self.assertEqual(holder["firsts"], shelf.firsts())
+                holders.append({"firsts": shelf.firsts(), "next": len(shelf.moves(0))})
+        self.assertGreater(applied, 500)
 
 
 if __name__ == "__main__":
