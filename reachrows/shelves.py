@@ -73,7 +73,7 @@ class Shelf:
         return len(self.past)
 
     def __eq__(self, other):
-        if not isinstance(other, Shelf):
-            return False
-        own = (self.book, self.machine, self.order, self.occupied)
-        return own == (other.book, other.machine, other.order, other.occupied)
+        return (
+            isinstance(other, Shelf) and self.book == other.book and self.machine == other.machine
+            and self.order == other.order and self.occupied == other.occupied
+        )

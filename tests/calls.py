@@ -2,10 +2,12 @@
 
 from copy import deepcopy
 
-from reachrows import aligned, books, growing, islands, orders, places, room, shelves, words
+from reachrows import (
+    aligned, books, cells, doors, growing, islands, lives, orders, patches, places, room, shelves, words,
+)
 from reachrows.errors import (
-    NoBook, NoChange, NoEdits, NoForms, NoGoal, NoIslands, NoMachine, NoNumber, NoOrder, NoPart, NoPlaced, NoRoom,
-    NoRow, NoSize,
+    NoBook, NoCells, NoChange, NoDoor, NoEdits, NoForms, NoGoal, NoIslands, NoMachine, NoNumber, NoOrder, NoPart,
+    NoPlaced, NoRoom, NoRow, NoSize, NoTwin, NoWrites,
 )
 from tests.support import MACHINE, machine_with, nested
 
@@ -16,6 +18,9 @@ HELPING = machine_with(reach=13)
 TWO = ((("plain", 1, 3), ("branch", 3), ("stop", 1), ("far", 1)), (("stop", 2),))
 THREE = ((("far", 2),), (("stop", 50),), (("stop", 4),))
 LEAPING = machine_with(leap=70)
+DOORS = ((("plain", 2, 0), ("far", 1)), (("plain", 2, 0), ("stop", 9)), (("stop", 4),))
+BEFORE = {0: ("plain", 2, 3), 4: ("branch", 1, 0), 5: ("stop", 1, 0)}
+AFTER = {0: ("plain", 2, 3), 4: ("jump", 1, 8), 8: ("stop", 1, 0)}
 
 # For each kind of argument the error, and values that are wrong in every one of the calls.
 WRONG = {
@@ -59,12 +64,29 @@ WRONG = {
     )),
     "change": (NoChange, (None, True, False, -1, 3, 4, "1", (1,), [1], {1: 1}, nested(tuple, 10))),
     "moves": (NoNumber, (None, True, False, -1, 5, "1", (1,), [1], {1: 1})),
+    "cells": (NoCells, (
+        None, True, (), [], [(0, ("stop", 1, 0))], {-1: ("stop", 1, 0)}, {"0": ("stop", 1, 0)}, {0: None},
+        {0: ["stop", 1, 0]}, {0: ("stop", 1)}, {0: ("align", 1, 0)}, {0: ("stop", True, 0)}, {0: ("stop", 1, False)},
+        {0: ("stop", 1, None)}, {number: ("stop", 1, 0) for number in range(301)}, nested(dict, 10),
+    )),
+    "writes": (NoWrites, (
+        None, True, (), {}, {0: None}, ((0, None),), [None], [(0,)], [[0, None]], [(-1, None)], [(True, None)],
+        [(0, ("stop", 1, True))], [(0, ["stop", 1, 0])], [(0, None)] * 601,
+        [(number, ("stop", 1, 0)) for number in range(301)], nested(list, 10),
+    )),
+    "at": (NoNumber, (None, True, False, -1, 10 ** 9 + 1, "1", (1,), [1], {1: 1})),
+    "door": (NoDoor, (None, True, False, -1, 2, 3, 4, 5, "1", (1,), [1], {1: 1}, nested(tuple, 10))),
+    "written": (NoNumber, (None, True, False, -1, 3, "1", (1,), [1], {1: 1})),
 }
+WRONG["begun"] = (NoOrder, WRONG["order"][1] + ([1, 0, 2], [2, 1, 0]))
+WRONG["twin"] = (NoTwin, WRONG["part"][1])
 WRONG["few placed"] = (NoPlaced, WRONG["placed"][1] + ([(5, value) for value in range(6)],))
 WRONG["few islands"] = (NoIslands, WRONG["islands"][1] + ([(0, 0), (0, 1), (0, 2), (1, 0), (1, 1), (1, 2), (2, 0)],))
 
 # The kinds of those arguments that have other names.
-KINDS = {"limit": "number", "total": "number", "a": "row", "b": "row"}
+KINDS = {
+    "limit": "number", "total": "number", "a": "row", "b": "row", "table": "cells", "before": "cells", "after": "cells",
+}
 
 
 class Call:
@@ -238,10 +260,84 @@ def stage_9():
     ]
 
 
+def stage_10():
+    """The calls of cells."""
+    laid_out = {"book": THREE, "machine": LEAPING, "order": [0, 1, 2], "room": [0, 0, 0]}
+    begun = {"order": "begun"}
+    table = {0: ("far", 2, 66), 16: ("stop", 50, 0), 66: ("island", 2, 80), 80: ("stop", 4, 0)}
+    return [
+        Call(cells.cells, table, begun, **laid_out, islands=[(1, 2)]),
+        Call(cells.cells, None, begun, **laid_out, islands=[]),
+        Call(cells.run_cells, ("stop", 12, 5), {}, table=BEFORE, total=6, limit=10),
+        Call(cells.run_cells, ("limit", 7, 0), {}, table={}, total=7, limit=0),
+        Call(cells.run_from, ("stop", 4, 2), {}, table=AFTER, at=1, total=4, limit=10),
+        Call(cells.run_from, ("lost", 4, 0), {}, table=AFTER, at=10 ** 9, total=4, limit=10),
+    ]
+
+
+def stage_11():
+    """The calls of patches."""
+    images = {"before": BEFORE, "after": AFTER}
+    writes = [(4, ("jump", 1, 8)), (5, None), (8, ("stop", 1, 0))]
+    return [
+        Call(patches.depends, [(0, 0), (2, 5)], {}, table=BEFORE, at=0),
+        Call(patches.depends, [(9, None)], {}, table=BEFORE, at=9),
+        Call(patches.patch, writes, {}, **images),
+        Call(patches.patch, [], {}, before=AFTER, after=dict(AFTER)),
+        Call(patches.patched, AFTER, {}, table=BEFORE, writes=writes),
+        Call(patches.patched, BEFORE, {}, table=BEFORE, writes=[]),
+        Call(patches.clashes, [4], {}, **images, at=0),
+        Call(patches.clashes, [], {}, **images, at=9),
+        Call(patches.safe_patch, writes[2:] + writes[:2], {}, **images, at=0),
+        Call(patches.safe_patch, None, {}, before=BEFORE, after={}, at=0),
+    ]
+
+
+def stage_12():
+    """The calls of doors."""
+    book = (DOORS[0], (("far", 3), ("stop", 9)), DOORS[2], PART)
+    return [
+        Call(doors.has_door, True, {}, part=DOORS[0], machine=MACHINE),
+        Call(doors.has_door, False, {}, part=PART, machine=MACHINE),
+        Call(doors.twin, book, {"p": "door", "part": "twin"}, book=DOORS, machine=MACHINE, p=1, part=PART),
+    ]
+
+
+def switched_live():
+    """A live book that has written two cells, and of which one switch can be taken back."""
+    live = lives.Live(DOORS, LEAPING, [0, 1, 2], [0, 0, 0], [(1, 2)])
+    live.switch(0, (("stop", 4),))
+    return live
+
+
+def stage_13():
+    """The calls of lives."""
+    given = {"book": DOORS, "machine": LEAPING, "order": [0, 2, 1], "room": [0, 1, 2]}
+    begun = {"order": "begun"}
+    book = ((("far", 3), ("far", 1)), DOORS[1], DOORS[2], (("stop", 4),))
+    image = {
+        0: ("far", 2, 48), 2: ("far", 2, 16), 16: ("plain", 2, 0), 18: ("stop", 9, 0), 27: ("island", 2, 32),
+        32: ("stop", 4, 0), 48: ("stop", 4, 0),
+    }
+    writes = [(48, ("stop", 4, 0)), (0, ("far", 2, 48))]
+    stop = (("stop", 1),)
+    return [
+        Call(lives.Live, lives.Live(**deepcopy(given), islands=[]), begun, **given, islands=[]),
+        Call(lives.Live, lives.Live(**deepcopy(given), islands=[(1, 2)]), begun, **given, islands=[(1, 2)]),
+        MethodCall((switched_live, "switch"), None, {"p": "door", "part": "twin"}, p=1, part=stop),
+        MethodCall((switched_live, "undo"), None, {}),
+        MethodCall((switched_live, "as_book"), book, {}),
+        MethodCall((switched_live, "image"), image, {}),
+        MethodCall((switched_live, "wrote"), writes, {"k": "written"}, k=0),
+        MethodCall((switched_live, "wrote"), writes[1:], {"k": "written"}, k=1),
+        MethodCall((switched_live, "wrote"), [], {"k": "written"}, k=2),
+    ]
+
+
 def all_calls():
     """All calls, made anew."""
-    calls = stage_1() + stage_3() + stage_4() + stage_5() + stage_6()
-    return calls + stage_7() + stage_8() + stage_9()
+    calls = stage_1() + stage_3() + stage_4() + stage_5() + stage_6() + stage_7() + stage_8() + stage_9()
+    return calls + stage_10() + stage_11() + stage_12() + stage_13()
 
 
 # The names and the order of all arguments, under the file that the interface lists the function or class in.
@@ -270,5 +366,18 @@ INTERFACE = {
     "reachrows.shelves": (
         "Shelf(book, machine, order, edits)", "Shelf.edit(self, p, part)", "Shelf.undo(self)", "Shelf.as_book(self)",
         "Shelf.firsts(self)", "Shelf.moves(self, n)",
+    ),
+    "reachrows.cells": (
+        "cells(book, machine, order, room, islands)", "run_cells(table, total, limit)",
+        "run_from(table, at, total, limit)",
+    ),
+    "reachrows.patches": (
+        "depends(table, at)", "patch(before, after)", "patched(table, writes)", "clashes(before, after, at)",
+        "safe_patch(before, after, at)",
+    ),
+    "reachrows.doors": ("has_door(part, machine)", "twin(book, machine, p, part)"),
+    "reachrows.lives": (
+        "Live(book, machine, order, room, islands)", "Live.switch(self, p, part)", "Live.undo(self)",
+        "Live.as_book(self)", "Live.image(self)", "Live.wrote(self, k)",
     ),
 }

@@ -6,10 +6,12 @@ import unittest
 from copy import deepcopy
 from importlib import import_module
 
-from reachrows import aligned, books, growing, islands, orders, places, room, shelves, words
+from reachrows import (
+    aligned, books, cells, doors, growing, islands, lives, orders, patches, places, room, shelves, words,
+)
 from reachrows.errors import (
-    NoBook, NoChange, NoEdits, NoEven, NoForms, NoGoal, NoIslands, NoMachine, NoNumber, NoOrder, NoPart, NoPlaced,
-    NoRoom, NoRow, NoSize,
+    NoBook, NoCells, NoChange, NoDoor, NoEdits, NoEven, NoForms, NoGoal, NoIslands, NoMachine, NoNumber, NoOrder,
+    NoPart, NoPlaced, NoRoom, NoRow, NoSize, NoTwin, NoWrites,
 )
 from tests.calls import INTERFACE, PART, UNEVEN, all_calls
 from tests.support import MACHINE, changes, odd_things, odd_values, refusal
@@ -41,7 +43,8 @@ class TestInterface(unittest.TestCase):
                     self.assertEqual(listed.__qualname__ + str(inspect.signature(listed)), signature)
 
     def test_each_class_has_its_own_len_and_equality(self):
-        self.assertLessEqual({"__init__", "__len__", "__eq__"}, set(vars(shelves.Shelf)))
+        for kind in (shelves.Shelf, lives.Live):
+            self.assertLessEqual({"__init__", "__len__", "__eq__"}, set(vars(kind)))
 
     def test_each_function_is_called_here(self):
         called = {(call.function.__module__, call.function.__qualname__) for call in all_calls()}
@@ -153,6 +156,15 @@ class TestErrorsOfArguments(unittest.TestCase):
         self.assertIs(refusal(room.reserve, (stop,), None, []), NoMachine)
         self.assertIs(refusal(room.reserve, (stop,), MACHINE, [(0, stop)] * 6 + [None]), NoEdits)
         self.assertIs(refusal(shelves.Shelf, (stop,), None, [0], []), NoMachine)
+        self.assertIs(refusal(cells.cells, ((("load", 1),) + stop,), MACHINE, [0], [-1], []), NoRoom)
+        self.assertIs(refusal(cells.run_cells, {}, 0, 1001), NoNumber)
+        self.assertIs(refusal(cells.run_from, {}, 10 ** 9 + 1, 0, 0), NoNumber)
+        self.assertIs(refusal(patches.depends, {}, -1), NoNumber)
+        self.assertIs(refusal(patches.clashes, {}, {}, -1), NoNumber)
+        self.assertIs(refusal(patches.safe_patch, {}, {}, -1), NoNumber)
+        self.assertIs(refusal(patches.patched, {}, [(0, None), (1, 0)]), NoWrites)
+        self.assertIs(refusal(doors.has_door, stop, None), NoMachine)
+        self.assertIs(refusal(lives.Live, ((("load", 1),) + stop,), MACHINE, [0], [0], [(0, 1)]), NoIslands)
 
     def test_a_refused_call_changes_nothing_for_the_next_one(self):
         for call in all_calls():
@@ -266,6 +278,46 @@ class TestBooleans(unittest.TestCase):
         self.check_refused(shelf.moves, (0,), (False,), NoNumber)
         shelf.edit(0, (("stop", 17),))
         self.check_refused(shelf.moves, (1,), (True,), NoNumber)
+
+    def test_images_and_writes(self):
+        stop, bad_stop = ("stop", 1, 0), ("stop", True, 0)
+        for bad in (bad_stop, ("stop", 1, False)):
+            self.check_refused(cells.run_cells, ({0: stop}, 0, 1), ({0: bad}, 0, 1), NoCells)
+            self.check_refused(cells.run_from, ({0: stop}, 0, 0, 1), ({0: bad}, 0, 0, 1), NoCells)
+            self.check_refused(patches.depends, ({0: stop}, 0), ({0: bad}, 0), NoCells)
+            self.check_refused(patches.patch, ({0: stop}, {}), ({0: bad}, {}), NoCells)
+            self.check_refused(patches.patch, ({}, {0: stop}), ({}, {0: bad}), NoCells)
+            self.check_refused(patches.patched, ({0: stop}, []), ({0: bad}, []), NoCells)
+            self.check_refused(patches.patched, ({}, [(0, stop)]), ({}, [(0, bad)]), NoWrites)
+            for call in (patches.clashes, patches.safe_patch):
+                self.check_refused(call, ({0: stop}, {}, 0), ({0: bad}, {}, 0), NoCells)
+                self.check_refused(call, ({}, {0: stop}, 0), ({}, {0: bad}, 0), NoCells)
+        self.check_refused(patches.patched, ({}, [(0, stop)]), ({}, [(False, stop)]), NoWrites)
+        self.check_refused(patches.patched, ({}, [(1, None)]), ({}, [(True, None)]), NoWrites)
+        self.check_refused(cells.run_cells, ({}, 1, 1), ({}, True, 1), NoNumber)
+        self.check_refused(cells.run_cells, ({}, 1, 1), ({}, 1, True), NoNumber)
+        for call, more in ((cells.run_from, (0, 0)), (patches.depends, ())):
+            self.check_refused(call, ({}, 0) + more, ({}, False) + more, NoNumber)
+        for call in (patches.clashes, patches.safe_patch):
+            self.check_refused(call, ({}, {}, 1), ({}, {}, True), NoNumber)
+
+    def test_doors_and_live_books(self):
+        door, bad_door = (("plain", 2, 0), ("stop", 1)), (("plain", 2, False), ("stop", 1))
+        self.check_refused(doors.has_door, (door, MACHINE), (bad_door, MACHINE), NoPart)
+        good = ((door, door), MACHINE, 1, door)
+        self.check_refused(doors.twin, good, ((door, bad_door), MACHINE, 1, door), NoBook)
+        self.check_refused(doors.twin, good, good[:2] + (True, door), NoDoor)
+        self.check_refused(doors.twin, good, good[:3] + (bad_door,), NoTwin)
+        good = ((door, door), MACHINE, [0, 1], [0, 1], [(0, 1)])
+        for call in (cells.cells, lives.Live):
+            self.check_refused(call, good, good[:2] + ([False, 1],) + good[3:], NoOrder)
+            self.check_refused(call, good, good[:3] + ([0, True],) + good[4:], NoRoom)
+            self.check_refused(call, good, good[:4] + ([(False, 1)],), NoIslands)
+        live = lives.Live(*good)
+        self.check_refused(live.wrote, (0,), (False,), NoNumber)
+        self.assertIs(refusal(live.switch, False, door), NoDoor)
+        self.assertIs(refusal(live.switch, True, door), NoDoor)
+        self.assertIs(refusal(live.switch, 0, bad_door), NoTwin)
 
 
 class TestWhatStaysAsItIs(unittest.TestCase):

@@ -4,10 +4,13 @@ import time
 import unittest
 
 from reachrows.aligned import helps, laid, least, shows_help
+from reachrows.cells import cells, run_cells, run_from
 from reachrows.errors import NoPlaced
 from reachrows.growing import grown, shows_chain
 from reachrows.islands import extents, fewest_islands, lost, shows_levels, ways
+from reachrows.lives import Live
 from reachrows.orders import best_order
+from reachrows.patches import clashes, depends, patch, patched, safe_patch
 from reachrows.room import reserve
 from reachrows.shelves import Shelf
 from reachrows.words import cheapest_words, no_words, shows_no, with_words
@@ -100,6 +103,58 @@ class TestSpeed(unittest.TestCase):
         self.check(shelf.edit, 0, ALIGNED)
         self.check(shelf.firsts)
         self.check(shelf.__eq__, shelf)
+
+    def test_cells_of_five_parts_of_twenty_rows(self):
+        self.assertIsNotNone(self.check(cells, BOOK, machine_with(leap=9999), ORDER, ROOM, []))
+        part = (("align", 2),) * 2 + (("branch", 0),) * 6 + (("far", 4),) * 7
+        pairs = [(part, goal) for part in range(5) for goal in range(5)]
+        table = self.check(cells, (part,) * 5, machine_with(leap=100), ORDER, ROOM, pairs)
+        self.check(run_cells, table, 1, 1000)
+
+    def test_runs_of_a_thousand_steps(self):
+        ring = {3 * number: ("plain", 3, 7) for number in range(299)}
+        ring[897] = ("jump", 1, 0)
+        self.assertEqual(self.check(run_cells, ring, 0, 1000)[0], "limit")
+        # Between any two steps the run goes by all the islands there may be.
+        chain = {number: ("island", 1, number + 1) for number in range(299)}
+        chain[299] = ("jump", 1, 0)
+        self.assertEqual(self.check(run_cells, chain, 0, 1000), ("limit", 0, 1000))
+        self.assertEqual(self.check(run_from, chain, 150, 0, 1000), ("limit", 0, 1000))
+        chain = {number: ("island", 1, number + 1) for number in range(150)}
+        chain.update({number: ("branch", 1, number % 7) for number in range(150, 299)})
+        chain[299] = ("jump", 1, 0)
+        self.assertEqual(self.check(run_cells, chain, 0, 1000), ("limit", 0, 1000))
+        self.assertEqual(self.check(run_cells, chain, 1, 1000), ("limit", 1, 1000))
+
+    def test_images_of_three_hundred_cells(self):
+        before = {10 * number: ("branch", 5, 10 * (number * 7 % 300) + 3) for number in range(300)}
+        after = {10 * number + 5: ("branch", 5, 10 * (number * 11 % 300)) for number in range(300)}
+        self.assertEqual(len(self.check(patch, before, after)), 600)
+        for at in (0, 1500, 9999):
+            self.check(depends, before, at)
+            self.check(depends, after, at)
+            self.check(clashes, before, after, at)
+            self.check(safe_patch, before, after, at)
+        loads = {20 * number: ("load", 5, 20 * number + 7) for number in range(150)}
+        loads.update({20 * number + 7: ("word", 1, number) for number in range(150)})
+        self.check(depends, loads, 0)
+        self.check(safe_patch, loads, {number + 1: loads[number] for number in loads}, 0)
+
+    def test_six_hundred_writes(self):
+        writes = [(number, ("stop", 1, 0)) for number in range(300)] + [(number, None) for number in range(300)]
+        self.assertEqual(self.check(patched, {}, writes), {})
+
+    def test_switches_of_a_live_book(self):
+        door = (("plain", 2, 0),)
+        part = door + (("align", 2),) * 6 + (("branch", 0),) * 6 + (("plain", 1, 1),) * 6 + (STOP,)
+        live = self.check(Live, (part,), machine_with(leap=9999), [0], [0], [])
+        for _ in range(20):
+            for p in range(4):
+                self.check(live.switch, p, part)
+            for _ in range(4):
+                self.check(live.undo)
+        self.check(live.wrote, 0)
+        self.check(live.image)
 
 
 if __name__ == "__main__":
