@@ -137,7 +137,7 @@ class TestBestOrder(unittest.TestCase):
         return found
 
     def test_against_all_orders_and_all_lists(self):
-        found = self.told(143, (1, 2, 3, 4, 4), 800) + self.told(144, (5,), 100)
+        found = self.told(143, (1, 2, 3, 4, 4), 600) + self.told(144, (5,), 70)
         counts = {}
         for many, _ in found:
             counts[many] = counts.get(many, 0) + 1

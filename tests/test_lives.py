@@ -151,6 +151,18 @@ class TestSwitch(unittest.TestCase):
         book = (through, (("far", 2), ("stop", 9)), (STOP,))
         self.check(live, 1, (STOP,), book, image, [(32, ("stop", 1, 0)), (16, ("far", 2, 32))])
 
+    def test_arguments_by_their_names(self):
+        live, other = live_of(), live_of()
+        self.assertIs(live.switch(part=(STOP,), p=1), None)
+        other.switch(1, part=(STOP,))
+        writes = [(32, ("stop", 1, 0)), (16, ("far", 2, 32))]
+        book = (BOOK[0], (("far", 2), ("stop", 9)), (STOP,))
+        self.assertEqual(whole(live), (book, {**CELLS, 16: ("far", 2, 32), 32: ("stop", 1, 0)}, writes, 1))
+        self.assertEqual(whole(other), whole(live))
+        self.assertEqual(live.wrote(k=1), writes[1:])
+        live = Live(islands=[(0, 1)], room=[1, 2], order=[0, 1], machine=LEAPING, book=BOOK)
+        self.assertIs(live == live_of(room=[1, 2], islands=[(0, 1)]), True)
+
     def test_up_to_five_parts(self):
         live = live_of((OPEN,), LEAPING)
         for p in range(4):

@@ -119,6 +119,11 @@ class TestPatched(unittest.TestCase):
         self.check([(9, STOP), (9, None)], TABLE)
         self.check([(9, STOP), (9, None), (9, None), (9, PLAIN)], {**TABLE, 9: PLAIN})
 
+    def test_the_order_of_the_keys_means_nothing(self):
+        writes = [(4, None), (7, PLAIN), (0, STOP)]
+        for keys in itertools.permutations(TABLE):
+            self.check(writes, {0: STOP, 5: STOP, 7: PLAIN}, {at: TABLE[at] for at in keys})
+
     def test_all_orders_of_some_writes(self):
         writes = [(0, STOP), (0, None), (9, STOP), (9, PLAIN), (9, None)]
         for order in itertools.permutations(writes):

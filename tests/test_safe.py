@@ -189,6 +189,7 @@ class TestSafePatch(unittest.TestCase):
             other = safe_patch(dict(reversed(before.items())), dict(reversed(after.items())), at)
             self.assertEqual(one, other)
             self.assertEqual(patch(before, after), patch(dict(reversed(before.items())), after))
+            self.assertEqual(clashes(before, after, at), clashes(dict(reversed(before.items())), after, at))
 
 
 class TestWrongArguments(unittest.TestCase):

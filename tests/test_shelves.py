@@ -153,6 +153,16 @@ class TestEdit(unittest.TestCase):
         part = part[:3] + (("stop", 3),)
         self.check(shelf_of(machine=machine_with(reach=9)), 0, part, (part,) + BOOK[1:], [0, 32, 64], moves)
 
+    def test_arguments_by_their_names(self):
+        shelf, other = shelf_of(), shelf_of()
+        self.assertIs(shelf.edit(part=stop(17), p=0), None)
+        other.edit(0, part=stop(17))
+        self.assertEqual(whole(shelf), (stops(17, 20, 40), [0, 32, 64], [(1, 16, 32), (2, 48, 64)], 1))
+        self.assertEqual(whole(other), whole(shelf))
+        self.assertEqual(shelf.moves(n=1), [(2, 48, 64)])
+        shelf = Shelf(edits=[(0, stop(17))], order=[2, 1, 0], machine=MACHINE, book=BOOK)
+        self.assertIs(shelf == Shelf(BOOK, MACHINE, [2, 1, 0], [(0, stop(17))]), True)
+
     def test_far_rows_to_parts_that_are_there(self):
         part = (("far", 2), ("far", 0))
         self.check(shelf_of(), 1, part, (BOOK[0], part, BOOK[2]), [0, 16, 48], [])
